@@ -12,12 +12,17 @@ func Named(s string) bool {
 	if len(s) == 0 || len(s) > api.MaxName || !begins(s[0]) {
 		return false
 	}
-	for i := 1; i < len(s); i++ {
-		if !goesOn(s[i]) {
-			return false
-		}
+	return len(Word(s)) == len(s)
+}
+
+// Word is what s begins with of letters, digits and `_`: layers that read texts
+// cut them by it, so that their words are made of the same bytes as names.
+func Word(s string) string {
+	n := 0
+	for n < len(s) && goesOn(s[n]) {
+		n++
 	}
-	return true
+	return s[:n]
 }
 
 // A great letter does not begin a name, since it begins a variable.

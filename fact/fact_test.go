@@ -478,3 +478,22 @@ func TestNoPanicOfListsThatDoNotRise(t *testing.T) {
 		}
 	}
 }
+
+func TestWord(t *testing.T) {
+	for i := range 256 {
+		one := string([]byte{byte(i)})
+		want := ""
+		if isPart(byte(i)) {
+			want = one + "a"
+		}
+		if got := Word(one + "a" + "-b"); got != want {
+			t.Errorf("Word(%q): %q", one+"a-b", got)
+		}
+	}
+	long := strings.Repeat("_Z9", 1000)
+	for _, c := range [][2]string{{"", ""}, {"a", "a"}, {"ab(c", "ab"}, {" a", ""}, {"aä", "a"}, {long, long}, {long + ".", long}} {
+		if got := Word(c[0]); got != c[1] {
+			t.Errorf("Word(%q): %q", c[0], got)
+		}
+	}
+}
