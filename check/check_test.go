@@ -528,7 +528,8 @@ func holds(of map[string]int, p api.Program) bool {
 }
 
 // Of all programs of at most two rules over a few atoms, right and wrong, Wrong
-// tells what a list of all that is wrong begins with.
+// tells what a list of all that is wrong begins with. Behind a first rule that is
+// wrong, one second rule stands for all: TestRuleByRule has others.
 func TestWrongOfAllSmallPrograms(t *testing.T) {
 	x, y, a := variable("X"), variable("Y"), named("a")
 	pool := []api.Atom{
